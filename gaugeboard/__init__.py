@@ -1,0 +1,1 @@
+"""A board of gauges: gaugeboard.board.answers does its calls."""
