@@ -1,7 +1,9 @@
 """Reading calls from the one list in which they stand one behind another."""
 
 # For each call, by its number: how many numbers it has, and how many rows behind them.
-SHAPES = ((0, 0), (3, 1), (2, 1), (2, 0), (2, 0), (1, 0), (2, 0))
+SHAPES = (
+    (0, 0), (3, 1), (2, 1), (2, 0), (2, 0), (1, 0), (2, 0),
+    (1, 2), (0, 0), (1, 0), (0, 0), (2, 0), (2, 0), (1, 0))
 
 
 class CallReader:

@@ -3,8 +3,8 @@
 Every double is a whole multiple of 2^-1074, its smallest step, and is kept
 here as how many of these steps it is. So sums, products and comparisons are
 exact by themselves, and a 0 has no sign. A single is kept likewise, in its own
-steps of 2^-149. Numbers too large for a double are not looked at: no call of
-the board reaches 2^187.
+steps of 2^-149. Numbers too large for them are not looked at: nothing that is
+made a single reaches 2^125, and nothing that is made a double 2^260.
 """
 
 STEP = 1074
@@ -45,6 +45,11 @@ def whole_made_double(number):
 def made_single(steps):
     """A double made a single, in a single's steps."""
     return nearest_of_digits(steps, 1 << (STEP - SINGLE_STEP), SINGLE_DIGITS)
+
+
+def single_made_double(single):
+    """The steps of the double that a single is, from a single's steps."""
+    return single << (STEP - SINGLE_STEP)
 
 
 def product(first, second):

@@ -2,6 +2,7 @@
 
 from gaugeboard.doubles import made_double
 
+STATES = 5
 FINE = 2
 
 

@@ -69,6 +69,40 @@ def point(g, y):
     return [6, g, y]
 
 
+def points(which, y, row):
+    """gb_points; y is a dict of some gauges' doubles' bits, the others' are 0."""
+    return [7, which, 64, *[y.get(g, 0) for g in range(64)], len(row), *row]
+
+
+def states():
+    return [8]
+
+
+def events(most=256):
+    return [9, most]
+
+
+def lost():
+    return [10]
+
+
+def trace(g, n):
+    return [11, g, n]
+
+
+def sums(g, n):
+    return [12, g, n]
+
+
+def clear(which):
+    return [13, which]
+
+
+def event(time, value, g, before, now):
+    """The three numbers of an event."""
+    return [time, double(value), g + 256 * before + 65536 * now]
+
+
 def split(given, count):
     """The answers to so many calls, a list each."""
     rows = []
